@@ -44,6 +44,20 @@ def without(commands, number):
     return commands[:number] + [never_done()] + commands[number + 1:]
 
 
+def taken_out(commands, number):
+    """The commands that are left when this one is taken out."""
+    return commands[:number] + commands[number + 1:]
+
+
+def turned(commands, number):
+    """The commands when this one and the next one have changed places."""
+    return commands[:number] + [commands[number + 1], commands[number]] + commands[number + 2:]
+
+
+def has_skip(commands):
+    return any([command.deed.name == "skip" for command in commands])
+
+
 def form_of(commands):
     """The one form of a script, as a text."""
     return "".join([command_form(command) for command in commands])

@@ -5,6 +5,7 @@ from scriptsknown.tokens import LETTERS
 DEEDS_NOT_PLAIN = ("swap", "first", "keep", "bring", "trade")
 MOST_LOOKED_FOR = 4
 MOST_LETTERS = 16
+LONGEST_LINE = 16
 LEAST_FILLED = 9
 
 
@@ -63,7 +64,7 @@ def first_lines(words):
     seen = {("", ()): True}
     lines = {(): ""}
     longest = [("", "", ())]
-    for length in range(MOST_LETTERS):
+    for length in range(LONGEST_LINE):
         longer = []
         for line, end, had in longest:
             for letter in LETTERS:

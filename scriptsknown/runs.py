@@ -1,9 +1,7 @@
-"""What a plain script does on a line at a place, and the first place and kind of something.
+"""What a plain script does on a line at a place.
 
 A place is a line's number and 1 if it is the last line, else 0.
 """
-
-FINAL_LINE = 24
 
 
 class LineRun:
@@ -69,33 +67,3 @@ def do_deed(deed, run):
         run.line = deed.letters
     elif deed.name == "skip":
         run.left_out = deed.number
-
-
-def all_places():
-    """The places in order; the line with the greatest number is always the last."""
-    places = []
-    for number in range(1, FINAL_LINE):
-        places.append((number, 0))
-        places.append((number, 1))
-    places.append((FINAL_LINE, 1))
-    return places
-
-
-def first_done(commands, kinds, number):
-    """The first place and kind at which the command with this number is done, or None."""
-    for place in all_places():
-        for kind in kinds:
-            if number in line_run(commands, kind, place).done:
-                return (place, kind)
-    return None
-
-
-def first_unlike(commands, others, kinds):
-    """The first place and kind of which two scripts make something else, or None."""
-    for place in all_places():
-        for kind in kinds:
-            one = line_run(commands, kind, place).coming()
-            other = line_run(others, kind, place).coming()
-            if one != other:
-                return (place, kind)
-    return None

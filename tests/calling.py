@@ -17,6 +17,11 @@ def load(text):
     return [LOAD, len(script)] + script
 
 
+def safe(text):
+    line = as_bytes(text)
+    return [SAFE, len(line)] + line
+
+
 def parted(told):
     """The answers, each a list, of what the interface gives back."""
     found = []
@@ -72,9 +77,9 @@ def kind_texts(text):
     return texts
 
 
-def first(number, last, line):
-    """The answer that tells a place and a kind."""
-    return [1, number, last, len(line)] + as_bytes(line)
+def first(number, last, line, ahead=1):
+    """The answer that tells a place and a kind; turn has a 0 ahead of them."""
+    return [ahead, number, last, len(line)] + as_bytes(line)
 
 
 class Dice:
@@ -168,11 +173,48 @@ def outcome(script, line, number, last, never=None):
 
 
 def whole_result(script, text):
-    """What comes of a whole text."""
+    """What comes of a whole text, with all its lines in one list from the first on."""
     result = []
-    for at, line in enumerate(text):
-        result.extend(outcome(script, line, at + 1, int(at + 1 == len(text)))[1])
+    for number, line in enumerate(text, start=1):
+        spot = len(result)
+        result.append(line)
+        left_out = 0
+        for nots, address, deed in script:
+            if left_out:
+                left_out -= 1
+            elif truth(nots, address, result[spot], number, number == len(text)):
+                if deed[0] == "delete":
+                    result.pop(spot)
+                if deed[0] in ("delete", "stop"):
+                    break
+                if deed[0] == "before":
+                    result.insert(spot, deed[1])
+                    spot += 1
+                elif deed[0] == "after":
+                    result.append(deed[1])
+                elif deed[0] == "change":
+                    result[spot] = deed[1]
+                else:
+                    left_out = deed[1]
     return result
+
+
+def comes_the_same(script, other, lines):
+    """Whether the same comes of each of these lines at every place."""
+    return all([outcome(script, line, *place)[1] == outcome(other, line, *place)[1]
+                for place in PLACES for line in lines])
+
+
+def pruned(script, kinds):
+    """The script without its idle commands; the kinds of the whole one serve all the way."""
+    at = 0
+    while at < len(script):
+        less = script[:at] + script[at + 1:]
+        if comes_the_same(script, less, kinds):
+            script, at = less, 0
+        else:
+            at += 1
+    return script
 
 
 def words_of(script):
